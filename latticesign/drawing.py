@@ -1,0 +1,71 @@
+"""Polynomials drawn from bytes that their seed alone decides."""
+
+from latticesign.keccak import shake128, shake256
+from latticesign.polynomials import Q, SIZE
+from latticesign.refusals import ChanceTooShort
+
+MATRIX_BYTES = 4032
+SMALL_BYTES = 1088
+
+# A shorter answer of SHAKE begins the longer one, and so few bytes nearly
+# always hold enough: the others are made only where they are needed.
+MATRIX_FEW_BYTES = 840
+SMALL_FEW_BYTES = 272
+
+# eta: halves of bytes from here on are passed over
+HALF_LIMITS = {2: 15, 4: 9}
+
+
+def first_ones(numbers):
+    if len(numbers) < SIZE:
+        raise ChanceTooShort()
+    return numbers[:SIZE]
+
+
+def numbers_below_q(chance):
+    numbers = []
+    for low, middle, high in zip(chance[0::3], chance[1::3], chance[2::3]):
+        number = low + 256 * middle + 65536 * (high % 128)
+        if number < Q:
+            numbers.append(number)
+    return numbers
+
+
+def matrix_polynomial(rho, row, column):
+    start = rho + [column, row]
+    numbers = numbers_below_q(shake128(start, MATRIX_FEW_BYTES))
+    if len(numbers) < SIZE:
+        numbers = numbers_below_q(shake128(start, MATRIX_BYTES))
+    return first_ones(numbers)
+
+
+def matrix_row(rho, row, columns):
+    return [matrix_polynomial(rho, row, column) for column in range(columns)]
+
+
+def drawn_matrix(rho, rows, columns):
+    """Its polynomials are transformed already."""
+    return [matrix_row(rho, row, columns) for row in range(rows)]
+
+
+def small_numbers(chance, eta):
+    limit = HALF_LIMITS[eta]
+    numbers = []
+    for byte in chance:
+        for half in (byte % 16, byte // 16):
+            if half < limit:
+                # for eta 4 all that are left are below 9 and stay as they are
+                numbers.append(eta - half % (2 * eta + 1))
+    return numbers
+
+
+def small_polynomial(seed, number, eta):
+    start = seed + [number % 256, number // 256]
+    numbers = small_numbers(shake256(start, SMALL_FEW_BYTES), eta)
+    if len(numbers) < SIZE:
+        numbers = small_numbers(shake256(start, SMALL_BYTES), eta)
+    return first_ones(numbers)
+
+
+def small_polynomials(seed, first, count, eta):
+    return [small_polynomial(seed, number, eta) for number in range(first, first + count)]
