@@ -2,18 +2,11 @@
 
 from latticesign.drawing import drawn_matrix, small_polynomials
 from latticesign.keccak import shake256
-from latticesign.packing import packed
-from latticesign.parting import split_high, split_low
+from latticesign.packing import packed, packed_below
+from latticesign.parting import SPLIT_LOW_BITS, SPLIT_LOW_TOP, split_high, split_low
 from latticesign.polynomials import added, joined, matrix_times
 
-HIGH_BITS = 10
-LOW_BITS = 13
-LOW_TOP = 4096
-
-
-def packed_below(top, numbers, bits):
-    """Packed as the top minus each, for numbers that may lie below 0."""
-    return packed([top - number for number in numbers], bits)
+SPLIT_HIGH_BITS = 10
 
 
 def made_keys(kind, seed):
@@ -26,8 +19,8 @@ def made_keys(kind, seed):
     s2 = small_polynomials(small_seed, kind.columns, kind.rows, kind.eta)
     product = matrix_times(drawn_matrix(rho, kind.rows, kind.columns), s1)
     t = added(joined(product), joined(s2))
-    pk = rho + packed([split_high(number) for number in t], HIGH_BITS)
+    pk = rho + packed([split_high(number) for number in t], SPLIT_HIGH_BITS)
     smalls = packed_below(kind.eta, joined(s1 + s2), kind.small_bits)
-    lows = packed_below(LOW_TOP, [split_low(number) for number in t], LOW_BITS)
+    lows = packed_below(SPLIT_LOW_TOP, [split_low(number) for number in t], SPLIT_LOW_BITS)
     sk = rho + signing_seed + shake256(pk, 64) + smalls + lows
     return pk + sk

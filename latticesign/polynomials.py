@@ -76,6 +76,10 @@ def added(left, right):
     return [(one + other) % Q for one, other in zip(left, right)]
 
 
+def subtracted(left, right):
+    return [(one - other) % Q for one, other in zip(left, right)]
+
+
 def row_times(row, vector):
     """The sum of the products, all of them transformed."""
     total = [0] * SIZE
@@ -90,8 +94,18 @@ def matrix_times(matrix, vector):
     return [transformed_back(row_times(row, values)) for row in matrix]
 
 
+def times_each(values, vector):
+    """One polynomial times each of several: these are transformed, the answers are not."""
+    return [transformed_back(row_times([values], [other])) for other in vector]
+
+
 def joined(polynomials):
     numbers = []
     for polynomial in polynomials:
         numbers.extend(polynomial)
     return numbers
+
+
+def parted(numbers):
+    """The polynomials whose numbers are joined here."""
+    return [numbers[start:start + SIZE] for start in range(0, len(numbers), SIZE)]

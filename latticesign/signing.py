@@ -2,7 +2,11 @@
 
 from latticesign.keymaking import made_keys
 from latticesign.kinds import is_kind, kind_of
-from latticesign.refusals import ChanceTooShort
+from latticesign.refusals import AllTriesRejected, ChanceTooShort
+from latticesign.signaturemaking import made_signature
+
+LONGEST_MESSAGE = 16777216
+LONGEST_CONTEXT = 255
 
 
 def keys(kind, seed):
@@ -14,3 +18,20 @@ def keys(kind, seed):
     except ChanceTooShort:
         return [-2]
     return [0] + made
+
+
+def are_lengths(n, k):
+    return 0 <= n <= LONGEST_MESSAGE and 0 <= k <= LONGEST_CONTEXT
+
+
+def sign(kind, n, k, sk, m, ctx, rnd):
+    """How many bytes the signature has, and these; [-1] if kind, n or k is none; [-2] if chance doesn't suffice."""
+    if not is_kind(kind) or not are_lengths(n, k):
+        return [-1]
+    try:
+        signature = made_signature(kind_of(kind), sk, m, ctx, rnd)
+    except ChanceTooShort:
+        return [-2]
+    except AllTriesRejected:
+        return [-2]
+    return [len(signature)] + signature

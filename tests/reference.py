@@ -4,11 +4,19 @@ SHAKE comes from hashlib, products are written out term by term, values are
 summed up power by power.
 """
 
+import functools
 import hashlib
 
 Q = 8380417
 FIXED = {44: (4, 4, 2), 65: (6, 5, 4), 87: (8, 7, 2)}
 SIZES = {44: (1312, 2560), 65: (1952, 4032), 87: (2592, 4896)}
+SIGNATURE_SIZES = {44: 2420, 65: 3309, 87: 4627}
+# tau, g1, g2, beta, omega, the challenge's bytes
+SIGNING = {
+    44: (39, 2 ** 17, 95232, 78, 80, 32),
+    65: (49, 2 ** 19, 261888, 196, 55, 48),
+    87: (60, 2 ** 19, 261888, 120, 75, 64),
+}
 
 
 def h(data, count):
@@ -48,6 +56,17 @@ def product(left, right):
     return [(terms[i] - terms[i + 256]) % Q for i in range(256)]
 
 
+def fast_product(left, right):
+    """The same product by one of long numbers, whose digits are wide enough for every sum of terms."""
+    digit = 16
+    longs = []
+    for polynomial in (left, right):
+        longs.append(int.from_bytes(b"".join((number % Q).to_bytes(digit, "little") for number in polynomial), "little"))
+    whole = (longs[0] * longs[1]).to_bytes(512 * digit, "little")
+    terms = [int.from_bytes(whole[i * digit:(i + 1) * digit], "little") for i in range(512)]
+    return [(terms[i] - terms[i + 256]) % Q for i in range(256)]
+
+
 def matrix_entry(rho, r, s):
     stream = hashlib.shake_128(bytes(rho) + bytes([s, r])).digest(4032)
     threes = [stream[i] + 256 * stream[i + 1] + 65536 * (stream[i + 2] % 128) for i in range(0, 4032, 3)]
@@ -81,6 +100,11 @@ def packed(numbers, width):
     return list(whole.to_bytes(len(numbers) * width // 8, "little"))
 
 
+def unpacked(data, width):
+    whole = int.from_bytes(bytes(data), "little")
+    return [whole >> (width * place) & (2 ** width - 1) for place in range(len(data) * 8 // width)]
+
+
 def keys(kind, seed):
     k, l, eta = FIXED[kind]
     start = h(bytes(seed) + bytes([k, l]), 128)
@@ -99,3 +123,99 @@ def keys(kind, seed):
     for polynomial in s1 + s2:
         sk += packed([eta - number for number in polynomial], 3 if eta == 2 else 4)
     return [0] + pk + sk + lows
+
+
+@functools.lru_cache(maxsize=None)
+def plain_matrix_entry(rho, r, s):
+    return polynomial_with(matrix_entry(rho, r, s))
+
+
+def nearest(z, m):
+    rest = z % m
+    return rest if rest <= m // 2 else rest - m
+
+
+def parts(z, g2):
+    """High and low part."""
+    b = nearest(z % Q, 2 * g2)
+    if z % Q - b == Q - 1:
+        return 0, b - 1
+    return (z % Q - b) // (2 * g2), b
+
+
+def mask(seed, number, g1):
+    width = g1.bit_length()
+    return [g1 - one for one in unpacked(h(bytes(seed) + number.to_bytes(2, "little"), 32 * width), width)]
+
+
+def challenge(seed, tau):
+    stream = h(seed, 1096)
+    signs = [stream[place // 8] >> place % 8 & 1 for place in range(64)]
+    rest = iter(stream[8:])
+    c = [0] * 256
+    for i in range(256 - tau, 256):
+        j = next(byte for byte in rest if byte <= i)
+        c[i] = c[j]
+        c[j] = -1 if signs.pop(0) else 1
+    return c
+
+
+def sum_of(polynomials):
+    return [sum(numbers) % Q for numbers in zip(*polynomials)]
+
+
+class Signer:
+    """Signs as the document says, and tells how often it tried."""
+
+    def __init__(self, kind, sk, times=product):
+        self.kind, self.times = kind, times
+        self.k, self.l, eta = FIXED[kind]
+        self.rho, self.big_k, self.tr = bytes(sk[:32]), bytes(sk[32:64]), bytes(sk[64:128])
+        width = 3 if eta == 2 else 4
+        smalls = 128 + (self.k + self.l) * 32 * width
+        s = [eta - number for number in unpacked(sk[128:smalls], width)]
+        t = [4096 - number for number in unpacked(sk[smalls:], 13)]
+        vectors = [s[256 * i:256 * i + 256] for i in range(self.k + self.l)]
+        self.s1, self.s2 = vectors[:self.l], vectors[self.l:]
+        self.t0 = [t[256 * i:256 * i + 256] for i in range(self.k)]
+
+    def sign(self, m, ctx, rnd):
+        mu = h(self.tr + bytes([0, len(ctx)]) + bytes(ctx) + bytes(m), 64)
+        seed = h(self.big_k + bytes(rnd) + mu, 64)
+        for self.tries in range(1, 1001):
+            signature = self.one_try(mu, seed, (self.tries - 1) * self.l)
+            if signature:
+                return [len(signature)] + signature
+        return [-2]
+
+    def one_try(self, mu, seed, n):
+        tau, g1, g2, beta, omega, count = SIGNING[self.kind]
+        y = [mask(seed, n + r, g1) for r in range(self.l)]
+        w = [sum_of([self.times(plain_matrix_entry(self.rho, r, s), y[s]) for s in range(self.l)])
+             for r in range(self.k)]
+        highs = [parts(number, g2)[0] for row in w for number in row]
+        e = h(mu + bytes(packed(highs, 6 if self.kind == 44 else 4)), count)
+        c = challenge(e, tau)
+        z = [nearest(number, Q) for r in range(self.l) for number in sum_of([y[r], self.times(c, self.s1[r])])]
+        if any(abs(number) >= g1 - beta for number in z):
+            return None
+        hints = self.hints(w, c)
+        if hints is None:
+            return None
+        return list(e) + packed([g1 - number for number in z], g1.bit_length()) + hints
+
+    def hints(self, w, c):
+        _, _, g2, beta, omega, _ = SIGNING[self.kind]
+        places, ends = [], []
+        for r in range(self.k):
+            x = [(one - other) % Q for one, other in zip(w[r], self.times(c, self.s2[r]))]
+            u = self.times(c, self.t0[r])
+            if any(abs(parts(number, g2)[1]) >= g2 - beta for number in x):
+                return None
+            if any(abs(nearest(number, Q)) >= g2 for number in u):
+                return None
+            places += [i for i in range(256) if parts(x[i], g2)[0] != parts(x[i] + u[i], g2)[0]]
+            ends.append(len(places))
+        if len(places) > omega:
+            return None
+        return places + [0] * (omega - len(places)) + ends

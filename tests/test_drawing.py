@@ -3,7 +3,8 @@ from unittest import mock
 
 import reference
 from latticesign.drawing import (
-    drawn_matrix, first_ones, matrix_polynomial, numbers_below_q, small_numbers, small_polynomial, small_polynomials)
+    challenge_from, challenge_places, drawn_challenge, drawn_matrix, first_ones, mask_polynomial, mask_polynomials,
+    matrix_polynomial, numbers_below_q, small_numbers, small_polynomial, small_polynomials)
 from latticesign.polynomials import Q
 from latticesign.refusals import ChanceTooShort
 
@@ -124,6 +125,116 @@ class SmallOnes(unittest.TestCase):
         with mock.patch("latticesign.drawing.shake256", shake):
             self.assertRaises(ChanceTooShort, small_polynomial, [0] * 64, 0, 2)
         self.assertEqual(max(call.args[1] for call in shake.call_args_list), 1088)
+
+
+class Masks(unittest.TestCase):
+    def test_polynomials(self):
+        for g1, bits in ((2 ** 17, 18), (2 ** 19, 20)):
+            for label in ("seed", "another"):
+                seed = reference.chance(label, 64)
+                for number in (0, 1, 255, 256, 257, 3999, 6999, 65535):
+                    with self.subTest(g1=g1, number=number):
+                        self.assertEqual(mask_polynomial(seed, number, g1, bits), reference.mask(seed, number, g1))
+
+    def test_what_is_asked_of_shake(self):
+        for number, two in ((0, [0, 0]), (255, [255, 0]), (256, [0, 1]), (6999, [87, 27])):
+            for g1, bits, count in ((2 ** 17, 18, 576), (2 ** 19, 20, 640)):
+                shake = answering([0] * 1000)
+                with mock.patch("latticesign.drawing.shake256", shake):
+                    mask_polynomial([9] * 64, number, g1, bits)
+                shake.assert_called_once_with([9] * 64 + two, count)
+
+    def drawn_from(self, stream, g1, bits):
+        with mock.patch("latticesign.drawing.shake256", answering(stream)):
+            return mask_polynomial([0] * 64, 0, g1, bits)
+
+    def test_edges(self):
+        for g1, bits in ((2 ** 17, 18), (2 ** 19, 20)):
+            self.assertEqual(self.drawn_from([0] * 1000, g1, bits), [g1] * 256)
+            self.assertEqual(self.drawn_from([255] * 1000, g1, bits), [1 - g1] * 256)
+
+    def test_lowest_bits_first(self):
+        numbers = self.drawn_from([1, 0, 4] + [0] * 997, 2 ** 17, 18)
+        self.assertEqual(numbers[:3], [2 ** 17 - 1, 2 ** 17 - 1, 2 ** 17])
+        numbers = self.drawn_from([1, 0, 16] + [0] * 997, 2 ** 19, 20)
+        self.assertEqual(numbers[:3], [2 ** 19 - 1, 2 ** 19 - 1, 2 ** 19])
+
+    def test_numbers_follow(self):
+        seed = [255] * 64
+        for first, count in ((0, 4), (254, 4), (6993, 7)):
+            wanted = [reference.mask(seed, first + r, 2 ** 19) for r in range(count)]
+            self.assertEqual(mask_polynomials(seed, first, count, 2 ** 19, 20), wanted)
+
+
+class Challenge(unittest.TestCase):
+    def test_seeds(self):
+        for tau, count in ((39, 32), (49, 48), (60, 64)):
+            for label in range(20):
+                seed = reference.chance(f"challenge {label}", count)
+                answer = drawn_challenge(seed, tau)
+                self.assertEqual(answer, reference.challenge(seed, tau))
+                self.assertEqual(len(answer), 256)
+                self.assertEqual(sorted(set(answer)), [-1, 0, 1])
+                self.assertEqual(sum(abs(number) for number in answer), tau)
+
+    def test_signs_lowest_bit_first(self):
+        for tau in (39, 49, 60):
+            places = list(range(256 - tau, 256))
+            for signs in ([0] * 8, [255] * 8, [0xAA] * 8, [1, 0, 0x80, 0, 0, 0, 0, 0], [0, 0, 0, 0x10, 0, 0, 2, 0]):
+                bits = [signs[i // 8] >> i % 8 & 1 for i in range(tau)]
+                wanted = [0] * (256 - tau) + [-1 if bit else 1 for bit in bits]
+                self.assertEqual(challenge_from(signs + places, tau), wanted)
+
+    def test_a_place_gives_its_number_on(self):
+        # every place takes what the first one has, which then takes the next sign
+        signs = [0b00000110] + [0] * 7
+        wanted = [1] + [0] * 216 + [0] + [1, -1, -1] + [1] * 35
+        self.assertEqual(challenge_from(signs + [0] * 39, 39), wanted)
+
+    def test_bytes_above_the_place_are_passed_over(self):
+        self.assertEqual(challenge_places([0] * 8 + [218, 217, 219, 218, 255, 219], 39), [217, 218, 219])
+        self.assertEqual(challenge_places([0] * 8 + [208, 207, 207, 210, 209], 49), [207, 207, 209])
+        self.assertEqual(challenge_places([0] * 8 + [197, 255, 196, 0, 199, 198], 60), [196, 0, 198])
+        passed = challenge_from([0] * 8 + [218] + [217] + [219, 255] + list(range(218, 256)), 39)
+        self.assertEqual(passed, [0] * 217 + [1] * 39)
+
+    def test_last_place_takes_every_byte(self):
+        self.assertEqual(challenge_places([0] * 8 + [0] * 38 + [255], 39), [0] * 38 + [255])
+
+    def test_signs_are_no_places(self):
+        self.assertEqual(challenge_places([0] * 8, 39), [])
+        self.assertEqual(challenge_places([0] * 8 + [5], 39), [5])
+
+    def test_no_more_places_than_tau(self):
+        for tau in (39, 49, 60):
+            self.assertEqual(challenge_places([0] * 8 + [7] * tau + [3] * 50, tau), [7] * tau)
+
+    def drawn_from(self, stream, tau):
+        self.assertEqual(len(stream), 1096)
+        with mock.patch("latticesign.drawing.shake256", answering(stream)):
+            return drawn_challenge([0] * 32, tau)
+
+    def test_all_of_the_bytes_are_used(self):
+        for tau in (39, 49, 60):
+            answer = self.drawn_from([0] * 8 + [255] * (1088 - tau) + [0] * tau, tau)
+            self.assertEqual(answer, [1] + [0] * (256 - tau) + [1] * (tau - 1))
+
+    def test_one_too_few(self):
+        for tau in (39, 49, 60):
+            with self.assertRaises(ChanceTooShort):
+                self.drawn_from([0] * 8 + [255] * (1088 - tau + 1) + [0] * (tau - 1), tau)
+
+    def test_none(self):
+        for tau in (39, 49, 60):
+            with self.assertRaises(ChanceTooShort):
+                self.drawn_from([255] * 1096, tau)
+            self.assertRaises(ChanceTooShort, challenge_from, [255] * 1096, tau)
+
+    def test_no_byte_beyond_is_asked_for(self):
+        shake = answering([255] * 10000)
+        with mock.patch("latticesign.drawing.shake256", shake):
+            self.assertRaises(ChanceTooShort, drawn_challenge, [0] * 32, 39)
+        self.assertEqual(max(call.args[1] for call in shake.call_args_list), 1096)
 
 
 class FirstOnes(unittest.TestCase):

@@ -6,6 +6,7 @@ import unittest
 from unittest import mock
 
 import reference
+from helpers import Watched, shake128_too_short_at, too_short
 from latticesign.signing import keys
 
 ZEROS = [0] * 32
@@ -30,10 +31,6 @@ PK_DIGESTS = (
 )
 
 NO_KINDS = (-2147483648, -87, -44, -2, -1, 0, 1, 2, 43, 45, 64, 66, 86, 88, 300, 2147483647)
-
-
-def too_short(data, count):
-    return [255] * count
 
 
 class Answers(unittest.TestCase):
@@ -98,11 +95,7 @@ class Refusals(unittest.TestCase):
 
     def test_fewer_at_the_last_place_alone(self):
         for kind, (rows, columns, _) in reference.FIXED.items():
-            def short_at_last(data, count):
-                if data[32:] == [columns - 1, rows - 1]:
-                    return [255] * count
-                return list(hashlib.shake_128(bytes(data)).digest(count))
-            with mock.patch("latticesign.drawing.shake128", short_at_last):
+            with mock.patch("latticesign.drawing.shake128", shake128_too_short_at(rows - 1, columns - 1)):
                 self.assertEqual(keys(kind, ZEROS), [-2])
 
     def test_fewer_small_ones_at_the_last_number_alone(self):
@@ -128,11 +121,6 @@ class Calls(unittest.TestCase):
             self.assertEqual(seed, kept)
 
     def test_seed_is_not_changed_for_a_while(self):
-        class Watched(list):
-            def refuse(self, *args):
-                raise AssertionError("the seed is changed")
-            append = extend = insert = pop = remove = clear = reverse = sort = refuse
-            __setitem__ = __delitem__ = __iadd__ = __imul__ = refuse
         for kind in (44, 65, 87, 0):
             self.assertEqual(keys(kind, Watched(RISING)), keys(kind, RISING))
 

@@ -1,7 +1,7 @@
 import unittest
 
 import reference
-from latticesign.parting import nearest_rest, split_high, split_low
+from latticesign.parting import high_and_low, high_part, low_part, nearest_rest, split_high, split_low
 
 Q = 8380417
 
@@ -49,6 +49,56 @@ class Split(unittest.TestCase):
             self.assertEqual(8192 * high + low, number)
             self.assertTrue(0 <= high <= 1023)
             self.assertTrue(-4096 < low <= 4096)
+
+
+class HighAndLow(unittest.TestCase):
+    def check(self, number, g2, high, low):
+        with self.subTest(number=number, g2=g2):
+            self.assertEqual(high_and_low(number, g2), (high, low))
+            self.assertEqual(high_part(number, g2), high)
+            self.assertEqual(low_part(number, g2), low)
+
+    def test_edges(self):
+        for g2, count in ((95232, 44), (261888, 16)):
+            step = 2 * g2
+            self.assertEqual(step * count, Q - 1)
+            for high in (0, 1, count - 1):
+                start = step * high
+                self.check(start, g2, high, 0)
+                self.check(start + 1, g2, high, 1)
+                self.check(start + g2 - 1, g2, high, g2 - 1)
+                self.check(start + g2, g2, high, g2)
+            for high in (1, 2, count - 1):
+                start = step * high
+                self.check(start - 1, g2, high, -1)
+                self.check(start - g2 + 1, g2, high, 1 - g2)
+                self.check(start - g2, g2, high - 1, g2)
+
+    def test_upper_end_goes_to_the_lowest(self):
+        for g2, count in ((95232, 44), (261888, 16)):
+            self.check(Q - 1, g2, 0, -1)
+            self.check(Q - 2, g2, 0, -2)
+            self.check(Q - g2, g2, 0, -g2)
+            self.check(Q - 1 - g2, g2, count - 1, g2)
+            self.check(Q - 2 - g2, g2, count - 1, g2 - 1)
+
+    def test_beyond_q(self):
+        for g2 in (95232, 261888):
+            self.check(Q, g2, 0, 0)
+            self.check(Q + g2, g2, 0, g2)
+            self.check(-1, g2, 0, -1)
+            self.check(-g2, g2, 0, -g2)
+            self.check(-Q, g2, 0, 0)
+            self.check(3 * Q + 2 * g2 + 5, g2, 1, 5)
+
+    def test_together_again(self):
+        for g2, count in ((95232, 44), (261888, 16)):
+            for number in range(0, Q, 499):
+                high, low = high_and_low(number, g2)
+                self.assertEqual((2 * g2 * high + low) % Q, number)
+                self.assertTrue(0 <= high < count)
+                self.assertTrue(-g2 <= low <= g2)
+                self.assertEqual((high, low), reference.parts(number, g2))
 
 
 if __name__ == "__main__":

@@ -2,7 +2,8 @@ import unittest
 
 import reference
 from latticesign.polynomials import (
-    Q, ROOTS, SIZE_INVERSE, added, joined, matrix_times, row_times, transformed, transformed_back)
+    Q, ROOTS, SIZE_INVERSE, added, joined, matrix_times, parted, row_times, subtracted, times_each, transformed,
+    transformed_back)
 
 
 def numbers(label, count=256):
@@ -91,8 +92,26 @@ class Products(unittest.TestCase):
     def test_added(self):
         self.assertEqual(added([Q - 1, 0, 5, 3], [1, -2, 6, -3]), [0, Q - 2, 11, 0])
 
+    def test_subtracted(self):
+        self.assertEqual(subtracted([Q - 1, 0, 5, 3], [1, -2, 6, 3]), [Q - 2, 2, Q - 1, 0])
+
+    def test_one_with_each(self):
+        one = [0, 1, -1, 0] * 64
+        vector = [[-5] * 256, [4096, -4095] * 128, numbers("each")]
+        answer = times_each(transformed(one), [transformed(other) for other in vector])
+        self.assertEqual(answer, [reference.product(one, other) for other in vector])
+
     def test_joined(self):
         self.assertEqual(joined([[1, 2], [], [3]]), [1, 2, 3])
+
+    def test_parted(self):
+        self.assertEqual(parted([]), [])
+        self.assertEqual(parted(list(range(512))), [list(range(256)), list(range(256, 512))])
+
+    def test_long_numbers_give_the_same_products(self):
+        for left in SAMPLES:
+            for right in SAMPLES[1::2]:
+                self.assertEqual(reference.fast_product(left, right), reference.product(left, right))
 
 
 if __name__ == "__main__":
