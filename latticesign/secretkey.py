@@ -12,9 +12,8 @@ def transformed_below(top, data, width):
     return [transformed(polynomial) for polynomial in parted(unpacked_below(top, data, width))]
 
 
+# its polynomials are kept transformed, since every try multiplies by them
 class SecretKey:
-    """Its polynomials are transformed, since every try multiplies by them."""
-
     def __init__(self, kind, sk):
         small_bytes = SIZE * kind.small_bits // 8
         s2_start = SMALLS_START + kind.columns * small_bytes
