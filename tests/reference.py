@@ -1,6 +1,7 @@
 """The document's words worked out once more, slowly and without the program.
 
-SHAKE comes from hashlib, products are written out term by term, values are
+SHAKE comes from hashlib, products are written out term by term (or, where many
+are needed, made of long numbers, which is held to the former), values are
 summed up power by power.
 """
 
