@@ -3,10 +3,8 @@
 from latticesign.drawing import drawn_matrix, small_polynomials
 from latticesign.keccak import shake256
 from latticesign.packing import packed, packed_below
-from latticesign.parting import SPLIT_LOW_BITS, SPLIT_LOW_TOP, split_high, split_low
+from latticesign.parting import SPLIT_HIGH_BITS, SPLIT_LOW_BITS, SPLIT_LOW_TOP, split_high, split_low
 from latticesign.polynomials import added, joined, matrix_times
-
-SPLIT_HIGH_BITS = 10
 
 
 def made_keys(kind, seed):

@@ -1,10 +1,10 @@
 """The kinds of keys and what each of them fixes."""
 
-# kind: rows and columns of the matrix, eta, tau, g1, g2, beta, omega, the challenge's bytes
+# kind: rows and columns of the matrix, eta, tau, g1, g2, beta, omega, the challenge's and the signature's bytes
 FIXED = {
-    44: (4, 4, 2, 39, 131072, 95232, 78, 80, 32),
-    65: (6, 5, 4, 49, 524288, 261888, 196, 55, 48),
-    87: (8, 7, 2, 60, 524288, 261888, 120, 75, 64),
+    44: (4, 4, 2, 39, 131072, 95232, 78, 80, 32, 2420),
+    65: (6, 5, 4, 49, 524288, 261888, 196, 55, 48, 3309),
+    87: (8, 7, 2, 60, 524288, 261888, 120, 75, 64, 4627),
 }
 
 # the bits that packed numbers take: by eta those of small ones, by g1 those
@@ -25,6 +25,7 @@ class Kind:
         self.beta = fixed[6]
         self.omega = fixed[7]
         self.challenge_bytes = fixed[8]
+        self.signature_bytes = fixed[9]
         self.small_bits = SMALL_BITS[self.eta]
         self.mask_bits = MASK_BITS[self.g1]
         self.high_bits = HIGH_PART_BITS[self.g2]

@@ -4,7 +4,8 @@ from latticesign.polynomials import Q
 
 SPLIT_STEP = 8192
 
-# how the lower parts of a split are packed: as this top minus each, in so many bits
+# how the parts of a split are packed: in so many bits, the lower ones as this top minus each
+SPLIT_HIGH_BITS = 10
 SPLIT_LOW_TOP = 4096
 SPLIT_LOW_BITS = 13
 
@@ -39,3 +40,9 @@ def high_part(number, g2):
 
 def low_part(number, g2):
     return high_and_low(number, g2)[1]
+
+
+def hinted_high_part(number, g2):
+    """The high part next to the number's: the one up if its low part is above 0, else the one down, round."""
+    step = 1 if low_part(number, g2) > 0 else -1
+    return (high_part(number, g2) + step) % ((Q - 1) // (2 * g2))

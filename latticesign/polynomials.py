@@ -80,6 +80,11 @@ def subtracted(left, right):
     return [(one - other) % Q for one, other in zip(left, right)]
 
 
+def largest(numbers):
+    """The largest magnitude."""
+    return max([abs(number) for number in numbers])
+
+
 def row_times(row, vector):
     """The sum of the products, all of them transformed."""
     total = [0] * SIZE

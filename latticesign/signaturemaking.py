@@ -1,32 +1,20 @@
 """How a signature comes from a secret key, a message, its context and chance."""
 
+from latticesign.digests import challenge_seed, message_digest
 from latticesign.drawing import drawn_challenge, drawn_matrix, mask_polynomials
 from latticesign.hints import hint_places, packed_hints
 from latticesign.keccak import shake256
-from latticesign.packing import packed, packed_below
+from latticesign.packing import packed_below
 from latticesign.parting import high_part, low_part, nearest_rest
-from latticesign.polynomials import Q, added, joined, matrix_times, subtracted, times_each, transformed
+from latticesign.polynomials import Q, added, joined, largest, matrix_times, subtracted, times_each, transformed
 from latticesign.refusals import AllTriesRejected
 from latticesign.secretkey import SecretKey
 
 TRIES = 1000
 
 
-def message_digest(tr, ctx, m):
-    return shake256(tr + [0, len(ctx)] + ctx + m, 64)
-
-
-def challenge_seed(kind, mu, w):
-    highs = [high_part(number, kind.g2) for number in joined(w)]
-    return shake256(mu + packed(highs, kind.high_bits), kind.challenge_bytes)
-
-
 def nearest_rests(numbers):
     return [nearest_rest(number, Q) for number in numbers]
-
-
-def largest(numbers):
-    return max([abs(number) for number in numbers])
 
 
 def shown_answer(kind, masks, shifts):
@@ -52,7 +40,7 @@ def shown_hints(kind, x, u):
 def tried(kind, secret, matrix, mu, masks):
     """The signature that these masks give, or None if it is rejected."""
     w = matrix_times(matrix, masks)
-    e = challenge_seed(kind, mu, w)
+    e = challenge_seed(kind, mu, [high_part(number, kind.g2) for number in joined(w)])
     c = transformed(drawn_challenge(e, kind.tau))
     z = shown_answer(kind, masks, times_each(c, secret.s1))
     if z is None:

@@ -220,3 +220,83 @@ class Signer:
         if len(places) > omega:
             return None
         return places + [0] * (omega - len(places)) + ends
+
+
+def hint_rows(data, k, omega):
+    """Each row's places, or None where they aren't packed just so."""
+    rows, used = [], 0
+    for count in data[omega:omega + k]:
+        row = data[used:count]
+        if count < used or count > omega or row != sorted(set(row)):
+            return None
+        rows.append(row)
+        used = count
+    if set(data[used:omega]) - {0}:
+        return None
+    return rows
+
+
+def next_part(z, g2):
+    """The high part that a hint leads to."""
+    high, low = parts(z, g2)
+    count = (Q - 1) // (2 * g2)
+    if low > 0:
+        return high + 1 if high + 1 < count else 0
+    return high - 1 if high > 0 else count - 1
+
+
+class Checker:
+    """Checks as the document says, and makes right signatures where a public key allows it without a secret."""
+
+    def __init__(self, kind, pk, times=product):
+        self.kind, self.pk, self.times = kind, pk, times
+        self.k, self.l, _ = FIXED[kind]
+        numbers = unpacked(pk[32:], 10)
+        self.t1 = [numbers[256 * i:256 * i + 256] for i in range(self.k)]
+
+    def x(self, z, c):
+        rows = []
+        for r in range(self.k):
+            terms = [self.times(plain_matrix_entry(bytes(self.pk[:32]), r, s), z[256 * s:256 * s + 256])
+                     for s in range(self.l)]
+            rows.append(sum_of(terms + [[-8192 * number for number in self.times(c, self.t1[r])]]))
+        return rows
+
+    def e(self, x, hints, m, ctx):
+        _, _, g2, _, _, count = SIGNING[self.kind]
+        highs = [next_part(number, g2) if place in hints[r] else parts(number, g2)[0]
+                 for r, row in enumerate(x) for place, number in enumerate(row)]
+        mu = h(h(self.pk, 64) + bytes([0, len(ctx)] + ctx + m), 64)
+        return h(mu + bytes(packed(highs, 6 if self.kind == 44 else 4)), count)
+
+    def check(self, m, ctx, sig):
+        tau, g1, _, beta, omega, count = SIGNING[self.kind]
+        if len(sig) != SIGNATURE_SIZES[self.kind]:
+            return [0]
+        end = count + self.l * 32 * g1.bit_length()
+        z = [g1 - number for number in unpacked(sig[count:end], g1.bit_length())]
+        hints = hint_rows(sig[end:], self.k, omega)
+        if hints is None or any(abs(number) >= g1 - beta for number in z):
+            return [0]
+        e = bytes(sig[:count])
+        return [1 if self.e(self.x(z, challenge(e, tau)), hints, m, ctx) == e else 0]
+
+    def put_together(self, e, z, hint_bytes):
+        g1 = SIGNING[self.kind][1]
+        return list(e) + packed([g1 - number for number in z], g1.bit_length()) + hint_bytes
+
+    def forged(self, z, hints, hint_bytes, m, ctx):
+        """For a t1 of zeros: x doesn't hang on c. The hints are what a lenient reader may take the bytes for."""
+        return self.put_together(self.e(self.x(z, [0] * 256), hints, m, ctx), z, hint_bytes)
+
+    def forged_with_hints(self, z, m, ctx):
+        """For a t1 so small, times 8192 modulo q, that hints can undo it."""
+        tau, _, g2, _, omega, _ = SIGNING[self.kind]
+        w = self.x(z, [0] * 256)
+        e = self.e(w, [[]] * self.k, m, ctx)
+        x = self.x(z, challenge(e, tau))
+        places, ends = [], []
+        for left, right in zip(w, x):
+            places += [i for i in range(256) if parts(left[i], g2)[0] != parts(right[i], g2)[0]]
+            ends.append(len(places))
+        return self.put_together(e, z, places + [0] * (omega - len(places)) + ends)

@@ -6,7 +6,7 @@ import unittest
 from unittest import mock
 
 import reference
-from helpers import Watched, shake128_too_short_at, too_short
+from helpers import NO_KINDS, Watched, shake128_too_short_at, too_short
 from latticesign.signing import keys
 
 ZEROS = [0] * 32
@@ -29,8 +29,6 @@ PK_DIGESTS = (
     (87, RISING, "91dc389cfaa01470b7f66eee45a4ae9026d154817c754dfe22298b3fa241ffcd"),
     (87, FALLING, "ca1dbeb6d2a0e6c2fde757889f82ea8d46ffd0c9f933653b6c0e1248612b6cd1"),
 )
-
-NO_KINDS = (-2147483648, -87, -44, -2, -1, 0, 1, 2, 43, 45, 64, 66, 86, 88, 300, 2147483647)
 
 
 class Answers(unittest.TestCase):

@@ -15,7 +15,7 @@ class Kinds(unittest.TestCase):
         for number, row in TABLE.items():
             kind = kind_of(number)
             self.assertEqual((kind.rows, kind.columns, kind.eta, kind.tau, kind.g1, kind.g2, kind.beta, kind.omega,
-                              kind.challenge_bytes), row[:9])
+                              kind.challenge_bytes, kind.signature_bytes), row[:9] + row[11:])
 
     def test_bits_lead_to_the_sizes(self):
         for number, row in TABLE.items():

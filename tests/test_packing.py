@@ -60,7 +60,10 @@ class Unpacking(unittest.TestCase):
         self.assertEqual(unpacked([], 3), [])
         self.assertEqual(unpacked([0, 3, 224], 3), [0, 0, 4, 1, 0, 0, 0, 7])
         self.assertEqual(unpacked([0x21, 0x8F], 4), [1, 2, 15, 8])
+        self.assertEqual(unpacked([255, 3, 16, 0, 128], 10), [1023, 0, 1, 512])
         self.assertEqual(unpacked([255, 31] + [0] * 9 + [8, 0], 13), [8191, 0, 0, 0, 0, 0, 0, 1])
+        self.assertEqual(unpacked([1, 0, 252, 255, 15, 0, 0, 0, 128], 18), [1, 2 ** 18 - 1, 0, 2 ** 17])
+        self.assertEqual(unpacked([1, 0, 240, 255, 255, 0, 0, 40, 0, 0], 20), [1, 2 ** 20 - 1, 2 ** 19, 2])
         self.assertEqual(unpacked([0b10000001, 2], 1), [1, 0, 0, 0, 0, 0, 0, 1, 0, 1, 0, 0, 0, 0, 0, 0])
 
     def test_widths(self):
@@ -83,6 +86,12 @@ class Unpacking(unittest.TestCase):
         self.assertEqual(unpacked_below(4, [0xF0], 4), [4, -11])
         self.assertEqual(unpacked_below(4096, [255] * 13, 13), [-4095] * 8)
         self.assertEqual(unpacked_below(4096, [0] * 13, 13), [4096] * 8)
+
+    def test_below_g1(self):
+        g1 = 2 ** 17
+        self.assertEqual(unpacked_below(g1, [0, 0, 252, 255, 15, 0, 0, 0, 128], 18), [g1, 1 - g1, g1, 0])
+        g1 = 2 ** 19
+        self.assertEqual(unpacked_below(g1, [1, 0, 240, 255, 255], 20), [g1 - 1, 1 - g1])
 
     def test_data_stays(self):
         data = list(range(6))

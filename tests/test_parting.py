@@ -1,7 +1,8 @@
 import unittest
 
 import reference
-from latticesign.parting import high_and_low, high_part, low_part, nearest_rest, split_high, split_low
+from latticesign.parting import (
+    high_and_low, high_part, hinted_high_part, low_part, nearest_rest, split_high, split_low)
 
 Q = 8380417
 
@@ -99,6 +100,47 @@ class HighAndLow(unittest.TestCase):
                 self.assertTrue(0 <= high < count)
                 self.assertTrue(-g2 <= low <= g2)
                 self.assertEqual((high, low), reference.parts(number, g2))
+
+
+class HintedHighPart(unittest.TestCase):
+    def check(self, number, g2, wanted):
+        with self.subTest(number=number, g2=g2):
+            self.assertEqual(hinted_high_part(number, g2), wanted)
+            self.assertEqual(reference.next_part(number, g2), wanted)
+
+    def test_up_above_0_else_down(self):
+        for g2, count in ((95232, 44), (261888, 16)):
+            for high in (1, 2, count // 2, count - 2):
+                start = 2 * g2 * high
+                for low in (1, 2, g2 - 1, g2):
+                    self.check(start + low, g2, high + 1)
+                for low in (0, -1, -2, 1 - g2):
+                    self.check(start + low, g2, high - 1)
+
+    def test_round_at_the_lowest(self):
+        for g2, count in ((95232, 44), (261888, 16)):
+            for low in (1, 2, g2):
+                self.check(low, g2, 1)
+            self.check(0, g2, count - 1)
+            self.check(Q, g2, count - 1)
+
+    def test_round_at_the_highest(self):
+        for g2, count in ((95232, 44), (261888, 16)):
+            start = 2 * g2 * (count - 1)
+            for low in (1, 2, g2):
+                self.check(start + low, g2, 0)
+            for low in (0, -1, 1 - g2):
+                self.check(start + low, g2, count - 2)
+
+    def test_upper_end_belongs_to_the_lowest(self):
+        for g2, count in ((95232, 44), (261888, 16)):
+            for number in (Q - 1, Q - 2, Q - g2 + 1, Q - g2, -1, -g2):
+                self.check(number, g2, count - 1)
+
+    def test_as_worked_out(self):
+        for g2 in (95232, 261888):
+            for number in range(0, Q, 4999):
+                self.assertEqual(hinted_high_part(number, g2), reference.next_part(number, g2))
 
 
 if __name__ == "__main__":

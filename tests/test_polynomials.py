@@ -2,8 +2,8 @@ import unittest
 
 import reference
 from latticesign.polynomials import (
-    Q, ROOTS, SIZE_INVERSE, added, joined, matrix_times, parted, row_times, subtracted, times_each, transformed,
-    transformed_back)
+    Q, ROOTS, SIZE_INVERSE, added, joined, largest, matrix_times, parted, row_times, subtracted, times_each,
+    transformed, transformed_back)
 
 
 def numbers(label, count=256):
@@ -94,6 +94,11 @@ class Products(unittest.TestCase):
 
     def test_subtracted(self):
         self.assertEqual(subtracted([Q - 1, 0, 5, 3], [1, -2, 6, 3]), [Q - 2, 2, Q - 1, 0])
+
+    def test_largest_of_both_signs(self):
+        self.assertEqual(largest([0, 0]), 0)
+        self.assertEqual(largest([3, -7, 5]), 7)
+        self.assertEqual(largest([3, -7, 8]), 8)
 
     def test_one_with_each(self):
         one = [0, 1, -1, 0] * 64

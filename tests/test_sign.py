@@ -1,5 +1,4 @@
 import contextlib
-import functools
 import hashlib
 import inspect
 import io
@@ -7,10 +6,11 @@ import unittest
 from unittest import mock
 
 import reference
-from helpers import Watched, shake128_too_short_at, too_short
+from helpers import (
+    KINDS, NO_CONTEXT_LENGTHS, NO_KINDS, NO_MESSAGE_LENGTHS, Watched, pair_from, secret_key, shake128_too_short_at,
+    too_short)
 from latticesign.signing import are_lengths, keys, sign
 
-KINDS = (44, 65, 87)
 ZEROS = [0] * 32
 TOPS = [255] * 32
 RISING = list(range(32))
@@ -28,19 +28,6 @@ RIGHT_DIGESTS = (
     (87, ZEROS, NOTHING, NOTHING, ZEROS, "27355c60013bf211ac3ef4b39b1114aa038360aeef989387dcdf39620ec1f280"),
     (87, RISING, EVERY_BYTE, SHORT, TOPS, "747c13c940c3a1e474b319d82608582fa9a192b6d9bff14e56421977ba4714b2"),
 )
-
-NO_KINDS = (-2147483648, -87, -44, -2, -1, 0, 1, 43, 45, 64, 66, 86, 88, 300, 2147483647)
-NO_MESSAGE_LENGTHS = (-2147483648, -1, 16777217, 2147483647)
-NO_CONTEXT_LENGTHS = (-2147483648, -1, 256, 2147483647)
-
-
-@functools.lru_cache(maxsize=None)
-def secret_key(kind, seed):
-    return tuple(keys(kind, list(seed))[1 + reference.SIZES[kind][0]:])
-
-
-def key_of(kind, label):
-    return list(secret_key(kind, tuple(reference.chance(label, 32))))
 
 
 def signed(kind, sk, m, ctx, rnd):
@@ -96,30 +83,30 @@ class Ordinary(AnswerCase):
                 m = reference.chance("message " + label, 10 * len(label))
                 ctx = reference.chance("context " + label, len(label))
                 rnd = reference.chance("chance " + label, 32)
-                tries.append(self.check(kind, key_of(kind, label), m, ctx, rnd, reference.product))
+                tries.append(self.check(kind, secret_key(kind, label), m, ctx, rnd, reference.product))
             self.assertGreater(max(tries), 1)
 
     def test_first_try_and_later_ones(self):
         for kind in KINDS:
-            tries = [self.check(kind, key_of(kind, "key"), [label], [], ZEROS) for label in range(12)]
+            tries = [self.check(kind, secret_key(kind, "key"), [label], [], ZEROS) for label in range(12)]
             self.assertEqual(min(tries), 1)
             self.assertGreater(max(tries), 4)
 
     def test_right_elsewhere(self):
         for kind, seed, m, ctx, rnd, digest in RIGHT_DIGESTS:
             with self.subTest(kind=kind, seed=seed):
-                sk = list(secret_key(kind, tuple(seed)))
+                sk = list(pair_from(kind, tuple(seed))[1])
                 answer = signed(kind, sk, m, ctx, rnd)
                 self.check_form(kind, answer)
                 self.assertEqual(hashlib.sha256(bytes(answer[1:])).hexdigest(), digest)
 
     def test_everything_counts(self):
-        sk = key_of(44, "key")
+        sk = secret_key(44, "key")
         answers = [
             signed(44, sk, [1, 2], [3], ZEROS), signed(44, sk, [1, 3], [3], ZEROS), signed(44, sk, [1, 2], [4], ZEROS),
             signed(44, sk, [1, 2], [3], ZEROS[:31] + [1]), signed(44, sk, [1, 2], [3], [1] + ZEROS[:31]),
             signed(44, sk, [2], [3, 1], ZEROS), signed(44, sk, [3, 1, 2], [], ZEROS),
-            signed(44, sk, [1, 2, 0], [3], ZEROS), signed(44, key_of(44, "another"), [1, 2], [3], ZEROS)]
+            signed(44, sk, [1, 2, 0], [3], ZEROS), signed(44, secret_key(44, "another"), [1, 2], [3], ZEROS)]
         for place, answer in enumerate(answers):
             self.assertNotIn(answer, answers[:place])
 
@@ -128,21 +115,21 @@ class Edges(AnswerCase):
     def test_nothing_at_all(self):
         for kind in KINDS:
             for rnd in (ZEROS, TOPS):
-                self.check(kind, key_of(kind, "key"), [], [], rnd)
+                self.check(kind, secret_key(kind, "key"), [], [], rnd)
 
     def test_contexts(self):
         for kind in KINDS:
             for ctx in ([0], [255], EVERY_BYTE[:254], EVERY_BYTE[:255], [255] * 255):
-                self.check(kind, key_of(kind, "key"), [], ctx, RISING)
+                self.check(kind, secret_key(kind, "key"), [], ctx, RISING)
 
     def test_messages(self):
         for kind in KINDS:
             # with 69 and 70 the digest is of a block of SHAKE but for a byte, and of a whole one
             for count in (1, 69, 70, 71, 5000):
-                self.check(kind, key_of(kind, "key"), reference.chance("message", count), [], TOPS)
+                self.check(kind, secret_key(kind, "key"), reference.chance("message", count), [], TOPS)
 
     def test_longest_that_is_handed_in(self):
-        self.check(44, key_of(44, "key"), [255] * 100000, [0] * 255, ZEROS)
+        self.check(44, secret_key(44, "key"), [255] * 100000, [0] * 255, ZEROS)
 
 
 class OddKeys(AnswerCase):
@@ -184,14 +171,14 @@ class Wrong(unittest.TestCase):
     def test_message_length(self):
         for kind in KINDS:
             for n in NO_MESSAGE_LENGTHS:
-                self.check_refused(kind, n, 0, key_of(kind, "key"), [], [], ZEROS)
-                self.check_refused(kind, n, 255, key_of(kind, "key"), [], [7] * 255, ZEROS)
+                self.check_refused(kind, n, 0, secret_key(kind, "key"), [], [], ZEROS)
+                self.check_refused(kind, n, 255, secret_key(kind, "key"), [], [7] * 255, ZEROS)
 
     def test_context_length(self):
         for kind in KINDS:
             for k in NO_CONTEXT_LENGTHS:
-                self.check_refused(kind, 0, k, key_of(kind, "key"), [], [], ZEROS)
-                self.check_refused(kind, 3, k, key_of(kind, "key"), [1, 2, 3], [], ZEROS)
+                self.check_refused(kind, 0, k, secret_key(kind, "key"), [], [], ZEROS)
+                self.check_refused(kind, 3, k, secret_key(kind, "key"), [1, 2, 3], [], ZEROS)
 
     def test_several_at_once(self):
         for kind in (0, 45, 2147483647):
@@ -199,7 +186,7 @@ class Wrong(unittest.TestCase):
                 self.check_refused(kind, n, 0, [], [], [], ZEROS)
                 for k in NO_CONTEXT_LENGTHS:
                     self.check_refused(kind, n, k, [], [], [], ZEROS)
-                    self.check_refused(44, n, k, key_of(44, "key"), [], [], ZEROS)
+                    self.check_refused(44, n, k, secret_key(44, "key"), [], [], ZEROS)
             for k in NO_CONTEXT_LENGTHS:
                 self.check_refused(kind, 0, k, [], [], [], ZEROS)
 
@@ -213,25 +200,25 @@ class Wrong(unittest.TestCase):
 class Chance(unittest.TestCase):
     def test_matrix(self):
         for kind in KINDS:
-            sk = key_of(kind, "key")
+            sk = secret_key(kind, "key")
             with mock.patch("latticesign.drawing.shake128", too_short):
                 self.assertEqual(signed(kind, sk, SHORT, [], ZEROS), [-2])
 
     def test_matrix_at_its_last_place_alone(self):
         for kind, (rows, columns, _) in reference.FIXED.items():
-            sk = key_of(kind, "key")
+            sk = secret_key(kind, "key")
             with mock.patch("latticesign.drawing.shake128", shake128_too_short_at(rows - 1, columns - 1)):
                 self.assertEqual(signed(kind, sk, SHORT, [], ZEROS), [-2])
 
     def test_challenge(self):
         for kind in KINDS:
-            sk = key_of(kind, "key")
+            sk = secret_key(kind, "key")
             with challenges_too_short([0]):
                 self.assertEqual(signed(kind, sk, SHORT, [], ZEROS), [-2])
 
     def test_challenge_of_a_later_try(self):
         for kind in KINDS:
-            sk = key_of(kind, "key")
+            sk = secret_key(kind, "key")
             signer = reference.Signer(kind, sk, reference.fast_product)
             # a message whose first try is rejected
             m = next([label] for label in range(100) if signer.sign([label], [], ZEROS) and signer.tries > 1)
@@ -243,7 +230,7 @@ class Chance(unittest.TestCase):
                 self.assertEqual(signed(kind, sk, m, [], ZEROS), wanted)
 
     def test_refused_ahead_of_that(self):
-        sk = key_of(44, "key")
+        sk = secret_key(44, "key")
         with mock.patch("latticesign.drawing.shake128", too_short):
             self.assertEqual(sign(45, 0, 0, [], [], [], ZEROS), [-1])
             self.assertEqual(sign(44, -1, 0, sk, [], [], ZEROS), [-1])
@@ -258,7 +245,7 @@ class Chance(unittest.TestCase):
 
     def test_every_try_rejected_for_each_kind(self):
         for kind in KINDS:
-            sk = key_of(kind, "key")
+            sk = secret_key(kind, "key")
             with mock.patch("latticesign.signaturemaking.tried", lambda *handed: None), \
                     mock.patch("latticesign.signaturemaking.mask_polynomials", lambda *handed: None):
                 self.assertEqual(signed(kind, sk, [], [], ZEROS), [-2])
@@ -268,12 +255,12 @@ class Calls(unittest.TestCase):
     def test_names_of_the_arguments(self):
         names = ["kind", "n", "k", "sk", "m", "ctx", "rnd"]
         self.assertEqual(list(inspect.signature(sign).parameters), names)
-        sk = key_of(44, "key")
+        sk = secret_key(44, "key")
         named = sign(kind=44, n=3, k=1, sk=sk, m=SHORT, ctx=[9], rnd=RISING)
         self.assertEqual(named, sign(44, 3, 1, sk, SHORT, [9], RISING))
 
     def handed(self, kind):
-        sk = key_of(kind, "key") if kind in KINDS else []
+        sk = secret_key(kind, "key") if kind in KINDS else []
         return [sk, reference.chance("m", 40), reference.chance("ctx", 20), reference.chance("rnd", 32)]
 
     def test_lists_stay(self):
@@ -293,7 +280,7 @@ class Calls(unittest.TestCase):
             self.assertEqual(sign(kind, 40, 20, *watched), sign(kind, 40, 20, *lists))
 
     def test_lists_stay_when_refused(self):
-        sk = Watched(key_of(44, "key"))
+        sk = Watched(secret_key(44, "key"))
         with mock.patch("latticesign.drawing.shake128", too_short):
             self.assertEqual(sign(44, 1, 1, sk, Watched([1]), Watched([2]), Watched(ZEROS)), [-2])
 
@@ -304,7 +291,7 @@ class Calls(unittest.TestCase):
             kept = list(first)
             first.reverse()
             first.append(-1)
-            sign(65, 0, 0, key_of(65, "another"), [], [], TOPS)
+            sign(65, 0, 0, secret_key(65, "another"), [], [], TOPS)
             sign(0, 0, 0, [], [], [], TOPS)
             keys(44, TOPS)
             self.assertEqual(sign(kind, 40, 20, *lists), kept)
@@ -318,7 +305,7 @@ class Calls(unittest.TestCase):
     def test_refusals_are_new_each_time(self):
         sign(0, 0, 0, [], [], [], ZEROS).append(5)
         self.assertEqual(sign(0, 0, 0, [], [], [], ZEROS), [-1])
-        sk = key_of(44, "key")
+        sk = secret_key(44, "key")
         with mock.patch("latticesign.drawing.shake128", too_short):
             signed(44, sk, [], [], ZEROS).append(5)
             self.assertEqual(signed(44, sk, [], [], ZEROS), [-2])
@@ -327,7 +314,7 @@ class Calls(unittest.TestCase):
     def test_prints_nothing(self):
         out = io.StringIO()
         with contextlib.redirect_stdout(out), contextlib.redirect_stderr(out):
-            signed(44, key_of(44, "key"), SHORT, [], ZEROS)
+            signed(44, secret_key(44, "key"), SHORT, [], ZEROS)
             sign(0, 0, 0, [], [], [], ZEROS)
         self.assertEqual(out.getvalue(), "")
 

@@ -4,7 +4,7 @@ from unittest import mock
 import reference
 from latticesign.kinds import kind_of
 from latticesign.refusals import AllTriesRejected
-from latticesign.signaturemaking import challenge_seed, largest, made_signature, message_digest, shown_answer, shown_hints
+from latticesign.signaturemaking import made_signature, shown_answer, shown_hints
 
 Q = 8380417
 KINDS = (44, 65, 87)
@@ -18,32 +18,6 @@ def at(rows, row, place, number):
     answer = [list(one) for one in rows]
     answer[row][place] = number
     return answer
-
-
-class Digests(unittest.TestCase):
-    def test_message(self):
-        tr = reference.chance("tr", 64)
-        for ctx, m in (([], []), ([1, 2], [3]), ([0] * 255, list(range(256)) * 5), ([], [0]), ([0], [])):
-            wanted = list(reference.h(tr + [0, len(ctx)] + ctx + m, 64))
-            self.assertEqual(message_digest(tr, ctx, m), wanted)
-
-    def test_challenge_seed(self):
-        mu = reference.chance("mu", 64)
-        for number in KINDS:
-            kind = kind_of(number)
-            stream = bytes(reference.chance(f"w {number}", kind.rows * 768))
-            flat = [int.from_bytes(stream[i:i + 3], "little") % Q for i in range(0, len(stream), 3)]
-            w = [flat[256 * r:256 * r + 256] for r in range(kind.rows)]
-            highs = [reference.parts(one, kind.g2)[0] for one in flat]
-            data = mu + reference.packed(highs, 6 if number == 44 else 4)
-            self.assertEqual(challenge_seed(kind, mu, w), list(reference.h(data, {44: 32, 65: 48, 87: 64}[number])))
-
-
-class Largest(unittest.TestCase):
-    def test_both_signs(self):
-        self.assertEqual(largest([0, 0]), 0)
-        self.assertEqual(largest([3, -7, 5]), 7)
-        self.assertEqual(largest([3, -7, 8]), 8)
 
 
 class Answer(unittest.TestCase):
